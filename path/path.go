@@ -59,7 +59,7 @@ func steps(s string) iter.Seq[string] {
 	}
 }
 
-// Split is a path's parent and its last step.
+// Split is a path's parent and its last step. Both are copies: an answer shares no memory with what was handed in.
 func Split(s string) (string, string, api.Errno) {
 	if !Good(s) {
 		return "", "", api.ErrForm
@@ -68,10 +68,11 @@ func Split(s string) (string, string, api.Errno) {
 		return "", "", api.ErrNone
 	}
 	slash := strings.LastIndexByte(s, '/')
-	if slash == 0 {
-		return root, s[1:], api.OK
+	dir, step := strings.Clone(s[:slash]), strings.Clone(s[slash+1:])
+	if dir == "" {
+		dir = root
 	}
-	return s[:slash], s[slash+1:], api.OK
+	return dir, step, api.OK
 }
 
 // Join is the path of a step below a path.
